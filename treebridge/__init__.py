@@ -1,0 +1,1 @@
+"""A bridge between nets (after 802.1D)."""
