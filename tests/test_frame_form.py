@@ -118,6 +118,13 @@ class Bytes(MessageCase):
                 self.assertEqual(self.reply(with_length(WORSE_BODY + [255] * more)), REPLY)
                 self.assertEqual(self.reply(with_length([0, 0, 0, 128] + [255] * more)), CHANGED_REPLY)
 
+    def test_more_bytes_do_not_count_as_times_either(self):
+        lesser = with_length(said_body(LESS, 5, LESS, 1) + [255, 255])
+        calls = [begin(), on(1), on(2), frame(1, lesser)]
+        self.check_last(calls, [told(LESS, 15, 2, age=1)])
+        times = bridge_after(*calls).times
+        self.assertEqual((times.oldest, times.between, times.wait), (20, 2, 15))
+
     def test_bytes_behind_the_length_do_not_count(self):
         self.assertEqual(self.reply(WORSE + [1, 2, 3]), REPLY)
         self.assertEqual(self.reply(changed() + [0] * 39), CHANGED_REPLY)
