@@ -15,6 +15,9 @@ LESS = 0x1000_0000_0000_0001
 LEAST = 0x0000_0000_0000_0005
 GREATER = 0x9000_0000_0000_0002
 
+SECOND = [4]
+ROOT = [6]
+
 
 def row(number, length):
     return list(number.to_bytes(length, "big"))
@@ -73,6 +76,38 @@ def frame(place, bytes_):
     return [3, place, len(bytes_)] + bytes_
 
 
+def seconds(how_many):
+    """So many calls of br_second."""
+    return [SECOND] * how_many
+
+
+def port(place):
+    return [5, place]
+
+
+def find(address):
+    return [7, address]
+
+
+def data(target, sender, rest=(8, 0, 1, 2, 3)):
+    """A frame that's no message."""
+    return frame_to(target, sender, list(rest))
+
+
+def reach(*states):
+    """The calls that bring the ports, from the first on, to these states."""
+    def places(state):
+        return [place for place, wanted in enumerate(states, start=1) if wanted == state]
+
+    calls = [begin(n=len(states))]
+    calls += [on(place) for place in places(4)] + seconds(15)
+    calls += [on(place) for place in places(3)] + seconds(15)
+    calls += [on(place) for place in places(2) + places(1)]
+    # The bridge's own words, as if by a port of a lesser number: it's that one that leads the net.
+    calls += [frame(place, said(OWN_ID, 0, OWN_ID, 1)) for place in places(1)]
+    return calls
+
+
 def parts(flat):
     """The answers, one list each."""
     result = []
@@ -98,7 +133,7 @@ def sent(answer):
 
 
 def bridge_after(*calls):
-    """The bridge itself behind a br_begin and other calls, for what no answer tells yet."""
+    """The bridge itself behind a br_begin and other calls, for what no answer tells."""
     bridge = Bridge(calls[0][1], calls[0][2])
     for call in calls[1:]:
         answer_call(bridge, call)
@@ -120,6 +155,29 @@ class BridgeCase(unittest.TestCase):
 
     def check_last(self, calls, expected):
         self.assertEqual(self.last_sent(*calls), expected)
+
+    def check_answers(self, calls, expected):
+        """The answers to the last calls, as many as there are of the expected ones."""
+        self.assertEqual(self.answers_of(*calls)[-len(expected):], expected)
+
+    def check_sent(self, calls, expected):
+        """The frames that each of the last calls sends, as many as there are of the expected ones."""
+        last = self.answers_of(*calls)[-len(expected):]
+        self.assertEqual([sent(answer) for answer in last], expected)
+
+    def check_states(self, calls, *states):
+        """The states of the ports, from the first on."""
+        asked_for = [port(place) for place in range(1, len(states) + 1)]
+        last = self.answers_of(*calls, *asked_for)[-len(states):]
+        self.assertEqual(tuple(answer[1] for answer in last), states)
+
+    def check_root(self, calls, root, cost, root_port):
+        self.check_answers(list(calls) + [ROOT], [[0, root, cost, root_port]])
+
+    def check_find(self, calls, places):
+        """By which ports addresses are known: a dict of places."""
+        asked_for = [find(address) for address in places]
+        self.check_answers(list(calls) + asked_for, [[place] for place in places.values()])
 
     def check_tree(self, calls, root, cost, root_port, age=1, **more):
         """Asks by the bridge's last port, 16, which is off till then: what the bridge knows is told by it."""

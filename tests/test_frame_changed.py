@@ -79,6 +79,7 @@ class OnAPortThatIsNotLed(BridgeCase):
 
     def test_a_port_with_its_own_number_led_by_another_bridge(self):
         self.check_nothing(begin(), on(1), frame(1, said(LESS, 5, LESS, 32769)), frame(1, changed()))
+        self.check_nothing(begin(), on(1), frame(1, said(LESS, 5, GREATER, 32769)), frame(1, changed()))
 
     def test_a_port_that_is_off(self):
         self.check_nothing(begin(), on(1), frame(2, changed()))

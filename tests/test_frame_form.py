@@ -1,8 +1,8 @@
 """Promise 4, br_frame: which frames are refused, which do nothing, and which are messages."""
 
 from tests.helper import (
-    BRIDGES, GREATER, LESS, OWN_ID, BridgeCase, asked, begin, bridge_after, changed, frame, on, row, said, said_body,
-    told, with_length)
+    BRIDGES, GREATER, LESS, OWN_ID, BridgeCase, asked, begin, bridge_after, changed, frame, on, reach, row, said,
+    said_body, told, with_length)
 from treebridge.bridge import br_frame
 
 WORSE_BODY = said_body(GREATER, 0, GREATER, 1)
@@ -42,8 +42,7 @@ class Nothing(BridgeCase):
                 self.assertEqual(self.answers_of(begin(), on(1), frame(1, WORSE[:length])), [[0], [0], [0]])
 
     def test_short_frames_on_a_port_that_forwards(self):
-        bridge = bridge_after(begin(), on(1), on(2))
-        bridge.ports[0].state = bridge.ports[1].state = 4
+        bridge = bridge_after(*reach(4, 4))
         short = row(0xB, 6) + row(0xA, 6) + [8]
         for length in range(14):
             with self.subTest(length=length):
@@ -193,14 +192,12 @@ class Targets(MessageCase):
     def test_what_is_not_a_message_is_not_passed_on(self):
         for bytes_ in (with_length([1, 2, 3, 4]), with_length(WORSE_BODY, 2), WORSE[:14], with_length([], link=())):
             with self.subTest(bytes=len(bytes_)):
-                bridge = bridge_after(begin(), on(1), on(2))
-                bridge.ports[0].state = bridge.ports[1].state = 4
+                bridge = bridge_after(*reach(4, 4))
                 self.assertEqual(br_frame(bridge, 1, bytes_), [0])
                 self.assertEqual(bridge.addresses.heard, {})
 
     def test_a_message_is_not_passed_on_and_its_sender_not_learned(self):
-        bridge = bridge_after(begin(), on(1), on(2))
-        bridge.ports[0].state = bridge.ports[1].state = 4
+        bridge = bridge_after(*reach(4, 4))
         self.assertEqual(br_frame(bridge, 1, WORSE)[0:2], [1, 1])
         self.assertEqual(bridge.addresses.heard, {})
 

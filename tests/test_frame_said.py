@@ -1,7 +1,8 @@
 """Promise 4, br_frame: what's said."""
 
 from tests.helper import (
-    GREATER, LEAST, LESS, OWN_ID, BridgeCase, asked, begin, bridge_after, changed, frame, on, said, sent, told)
+    GREATER, LEAST, LESS, OWN_ID, BridgeCase, asked, begin, bridge_after, changed, frame, off, on, said, sent,
+    told)
 from treebridge.bridge import br_frame
 
 WORSE = said(GREATER, 0, GREATER, 1)
@@ -42,6 +43,7 @@ class Better(BridgeCase):
         for port in (0, 6, 7, 8, 65535):
             with self.subTest(port=port):
                 self.assertTrue(self.is_better((20, 5, 30, 7), (20, 5, 30, port)))
+                self.assertTrue(self.is_better((20, 5, GREATER, 7), (20, 5, GREATER, port)))
 
     def test_own_way_is_not_counted(self):
         # What the port knows is compared, not what the bridge makes of it (cost 15).
@@ -121,6 +123,14 @@ class BetterOnTheRootPort(BridgeCase):
                 self.check_last(calls, [])
                 port = bridge_after(*calls).ports[1]
                 self.assertEqual((port.hold, port.to_tell), (None, False))
+
+    def test_older_than_things_may_be_is_not_told(self):
+        # Port 1's times go on to hold, when port 2 with its older way becomes the root port.
+        for age, expected in ((3, [told(LEAST, 16, 3, age=4, oldest=5)]), (4, []), (18, [])):
+            with self.subTest(age=age):
+                calls = [begin(), on(1), on(2), frame(1, said(LEAST, 5, LEAST, 1, oldest=5)),
+                         frame(2, said(LEAST, 6, LESS, 7, age=age)), off(1), on(3), frame(3, WORSE)]
+                self.check_last(calls, expected)
 
     def test_too_old_to_be_told_keeps_the_notes(self):
         old = said(LESS, 5, LESS, 1, age=19)
@@ -293,7 +303,7 @@ class NoLongerTheRoot(BridgeCase):
         self.assertEqual((bridge.telling, bridge.change_found), (None, False))
         self.assertEqual((leader_of(bridge, 1), bridge.ports[0].age), ((5, 0, 5, 32769), None))
 
-    def test_without_a_root_port_nothing_is_asked(self):
-        bridge = bridge_after(begin(), on(1))
-        bridge.ask()
-        self.assertEqual(bridge.sent, [])
+    def test_its_own_words_do_not_stop_asking(self):
+        calls = [begin(), on(1), on(2), frame(1, WAY), frame(2, changed()), frame(1, said(LEAST, 0, OWN_ID, 32769))]
+        self.check_root(calls, OWN_ID, 0, 0)
+        self.assertEqual(bridge_after(*calls).asking, 0)

@@ -4,10 +4,13 @@ import copy
 import unittest
 
 import treebridge.bridge
-from tests.helper import GREATER, LESS, OWN_ADDRESS, OWN_ID, begin, changed, frame, off, on, said, told
+from tests.helper import (
+    GREATER, LESS, OWN_ADDRESS, OWN_ID, ROOT, SECOND, begin, changed, data, find, frame, off, on, parts, port, said,
+    seconds, told)
 
-ROUND = [begin(n=3), on(1), on(2), frame(1, said(LESS, 5, LESS, 1)), off(4), frame(2, changed()), begin(7, 0),
-         off(1), frame(3, []), begin(3, 1), on(1), frame(1, said(GREATER, 0, GREATER, 1))]
+ROUND = [begin(n=3), on(1), on(2), frame(1, said(LESS, 5, LESS, 1)), off(4), frame(2, changed()), SECOND, port(1),
+         begin(7, 0), ROOT, off(1), frame(3, []), *seconds(30), frame(2, data(0xB, 0xA)), find(0xA), port(4),
+         begin(3, 1), on(1), frame(1, said(GREATER, 0, GREATER, 1)), SECOND, ROOT, port(1), find(0xA)]
 
 
 def flat_round():
@@ -27,6 +30,40 @@ class Form(unittest.TestCase):
         one, two = told(LESS, 15, 2, age=1)[1], told(LESS, 15, 3, age=1)[1]
         self.assertEqual(treebridge.bridge.answers(calls)[8:], [109, 2, 2, 52] + one + [3, 52] + two)
 
+    def test_all_eight_calls_in_one_list(self):
+        tells = told(9, 0, 1, own=9)[1]
+        calls = [0, 9, 2, 1, 1, 10, 4, 4, 5, 1, 5, 3, 6, 7, 33, 3, 1, 3, 4, 5, 6, 2, 1, 5, 1, 0, 8, 17, 6, 0, 8, 16, 6]
+        self.assertEqual(treebridge.bridge.answers(calls), [
+            1, 0,
+            1, 0,
+            1, 0,
+            55, 1, 1, 52] + tells + [
+            6, 0, 2, 9, 0, 9, 32769,
+            1, -1,
+            4, 0, 9, 0, 0,
+            1, 0,
+            1, 0,
+            1, 0,
+            6, 0, 0, 9, 0, 9, 32769,
+            1, -1,
+            4, 0, 9, 0, 0,
+            1, 0,
+            4, 0, 8, 0, 0])
+
+    def test_each_call_alone_behind_the_first(self):
+        for call, answer in (([0, 1, 0], [1, -1]), ([1, 1, 1], [1, 0]), ([2, 2], [1, 0]), ([3, 1, 0], [1, 0]),
+                             ([4], [1, 0]), ([5, 0], [1, -1]), ([6], [4, 0, 9, 0, 0]), ([7, 5], [1, 0])):
+            with self.subTest(call=call):
+                self.assertEqual(treebridge.bridge.answers([0, 9, 2] + call), [1, 0] + answer)
+                self.assertEqual(treebridge.bridge.answers([0, 9, 2] + call * 2), [1, 0] + answer * 2)
+
+    def test_a_cost_above_32_bits_and_what_a_message_tells_of_it(self):
+        lesser = frame(1, said(LESS, 4294967295, LESS, 1))
+        calls = begin(n=2) + on(1, 10) + on(2) + lesser + ROOT + port(2)
+        given = parts(treebridge.bridge.answers(calls))
+        self.assertEqual(given[3:], [[1, 2, 52] + told(LESS, 9, 2, age=1)[1], [0, LESS, 4294967305, 1],
+                                     [0, 2, LESS, 4294967305, OWN_ID, 32770]])
+
     def test_no_frame(self):
         self.assertEqual(treebridge.bridge.answers(begin() + frame(1, []) + off(1)), [1, 0, 1, 0, 1, 0])
 
@@ -39,6 +76,15 @@ class Form(unittest.TestCase):
             with self.subTest(bytes=bytes_):
                 self.assertEqual(treebridge.bridge.answers(begin() + frame(1, bytes_) + on(9)), [1, 0, 1, 0, 1, -1])
 
+    def test_numbers_of_calls_as_what_is_handed_to_a_call_are_no_calls(self):
+        for number in range(8):
+            with self.subTest(number=number):
+                calls = begin(number, 16) + find(number) + port(number) + off(number) + ROOT
+                there_is = 0 if number > 0 else -1
+                told_of_it = [6, 0, 0, 0, 0, 0, 0] if number > 0 else [1, -1]
+                self.assertEqual(treebridge.bridge.answers(calls),
+                                 [1, 0, 1, 0] + told_of_it + [1, there_is, 4, 0, number, 0, 0])
+
     def test_a_list_of_plain_whole_numbers(self):
         given = treebridge.bridge.answers(flat_round())
         self.assertIs(type(given), list)
@@ -47,6 +93,13 @@ class Form(unittest.TestCase):
     def test_the_most_calls(self):
         calls = begin(n=16) + on(1) * 999
         self.assertEqual(treebridge.bridge.answers(calls), [1, 0] * 1000)
+
+    def test_the_most_seconds(self):
+        # All 16 ports are on, and tell each second second: 491 times.
+        calls = begin(n=16) + sum([on(place) for place in range(1, 17)], []) + SECOND * 983
+        given = parts(treebridge.bridge.answers(calls))
+        self.assertEqual(len(given), 1000)
+        self.assertEqual([answer[0] for answer in given[17:]], [0, 16] * 491 + [0])
 
     def test_the_longest_list(self):
         calls = begin(n=16) + on(1) + frame(1, [1] * 2048) * 7

@@ -29,3 +29,12 @@ class Addresses:
             if entry[0] != place:
                 kept[address] = entry
         self.heard = kept
+
+    def grow_older(self, oldest):
+        """By a second; those that are then of this age or more are forgotten."""
+        kept = {}
+        for address, entry in self.heard.items():
+            age = entry[1] + 1
+            if age < oldest:
+                kept[address] = (entry[0], age)
+        self.heard = kept

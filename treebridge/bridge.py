@@ -1,6 +1,7 @@
 """The calls on a bridge, read from one list of whole numbers, and their answers as another."""
 
 from treebridge.relay import take_frame
+from treebridge.seconds import pass_second
 from treebridge.tree import Bridge
 from treebridge.words import BLOCKING, OFF
 
@@ -8,9 +9,12 @@ BR_BEGIN = 0
 BR_ON = 1
 BR_OFF = 2
 BR_FRAME = 3
+BR_SECOND = 4
+BR_PORT = 5
+BR_ROOT = 6
 
 # By a call's number: how many numbers it has with its own, br_frame's frame not counted.
-CALL_LENGTHS = {0: 3, 1: 3, 2: 2, 3: 3}
+CALL_LENGTHS = {0: 3, 1: 3, 2: 2, 3: 3, 4: 1, 5: 2, 6: 1, 7: 2}
 
 MOST_PORTS = 16
 MOST_COST = 65535
@@ -51,7 +55,15 @@ def answer_call(bridge, call):
         return br_on(bridge, call[1], call[2])
     if call[0] == BR_OFF:
         return br_off(bridge, call[1])
-    return br_frame(bridge, call[1], call[3:])
+    if call[0] == BR_FRAME:
+        return br_frame(bridge, call[1], call[3:])
+    if call[0] == BR_SECOND:
+        return br_second(bridge)
+    if call[0] == BR_PORT:
+        return br_port(bridge, call[1])
+    if call[0] == BR_ROOT:
+        return br_root(bridge)
+    return br_find(bridge, call[1])
 
 
 def refusal():
@@ -75,14 +87,10 @@ def br_off(bridge, place):
     if port is None:
         return refusal()
     if port.state != OFF:
-        was_root = bridge.is_root()
         port.turn_off()
         bridge.lead(port)
         bridge.addresses.forget_place(place)
-        bridge.update_tree()
-        bridge.set_states()
-        if bridge.is_root() and not was_root:
-            bridge.become_root()
+        bridge.settle()
     return take_sent(bridge)
 
 
@@ -93,6 +101,27 @@ def br_frame(bridge, place, frame):
     if port.state != OFF and len(frame) >= LEAST_BYTES:
         take_frame(bridge, port, frame)
     return take_sent(bridge)
+
+
+def br_second(bridge):
+    pass_second(bridge)
+    return take_sent(bridge)
+
+
+def br_port(bridge, place):
+    port = bridge.port_at(place)
+    if port is None:
+        return refusal()
+    leader = port.leader
+    return [0, port.state, leader.root, leader.cost, leader.bridge, leader.port]
+
+
+def br_root(bridge):
+    return [0, bridge.root, bridge.cost, bridge.root_port]
+
+
+def br_find(bridge, address):
+    return [bridge.addresses.place_of(address)]
 
 
 def take_sent(bridge):

@@ -78,4 +78,4 @@ def pass_on(bridge, source, target, frame):
     known_place = bridge.addresses.place_of(target)
     for port in bridge.ports:
         if port.state == FORWARDING and port.place != source.place and known_place in (0, port.place):
-            bridge.send(port, frame)
+            bridge.send(port.place, frame)

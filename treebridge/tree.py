@@ -56,8 +56,12 @@ class Bridge:
     def is_led(self, port):
         return port.leader.bridge == self.own_id and port.leader.port == port.own_number
 
-    def send(self, port, frame):
-        self.sent.append((port.place, frame))
+    def leads_any_net(self):
+        """Whether this bridge leads a port's net, by whatever port."""
+        return any([port.leader.bridge == self.own_id for port in self.ports])
+
+    def send(self, place, frame):
+        self.sent.append((place, frame))
 
     def tell(self, port):
         if port.hold is not None:
@@ -67,7 +71,7 @@ class Bridge:
         if age >= self.times.oldest:
             return
         said = Said(self.own_leader(port), age, self.times, self.change_there, port.to_call_known)
-        self.send(port, said_frame(self.own_id, said))
+        self.send(port.place, said_frame(self.own_id, said))
         port.forget_notes()
         port.hold = 0
 
@@ -87,10 +91,8 @@ class Bridge:
         self.ask()
 
     def ask(self):
-        port = self.port_at(self.root_port)
-        # Without a root port there's no port to ask by.
-        if port is not None:
-            self.send(port, changed_frame(self.own_id))
+        # The root port as its number is: 0 where the bridge's own words came back and made it the root.
+        self.send(self.root_port, changed_frame(self.own_id))
 
     def choose(self):
         chosen = min([port for port in self.ports if self.may_be_chosen(port)], key=rank, default=None)
@@ -151,6 +153,14 @@ class Bridge:
             self.find_change()
         port.state = BLOCKING
         port.wait = None
+
+    def settle(self):
+        """The tree and the states anew, when what a port knew is gone."""
+        was_root = self.is_root()
+        self.update_tree()
+        self.set_states()
+        if self.is_root() and not was_root:
+            self.become_root()
 
     def find_change(self):
         if self.is_root():
